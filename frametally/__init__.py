@@ -1,0 +1,1 @@
+"""Frametally: the virtual memory of several processors."""

@@ -1,0 +1,19 @@
+"""What the tests of several modules ask of the interface."""
+
+import inspect
+
+
+def parameters(function):
+    """The names of the parameters, without the method's own object."""
+    return [name for name in inspect.signature(function).parameters if name != "self"]
+
+
+def check_class(case, cls, module, methods):
+    """Checks that a class is defined in its file, and each listed method in the class itself.
+
+    `methods` is a dict from the name of each method to the names of its arguments.
+    """
+    case.assertEqual(cls.__module__, module)
+    for name, arguments in methods.items():
+        case.assertIn(name, vars(cls))
+        case.assertEqual(parameters(vars(cls)[name]), arguments)
