@@ -17,3 +17,10 @@ def check_class(case, cls, module, methods):
     for name, arguments in methods.items():
         case.assertIn(name, vars(cls))
         case.assertEqual(parameters(vars(cls)[name]), arguments)
+
+
+def check_function(case, function, module, arguments):
+    """Checks that a function is defined in its file, with these names of its arguments."""
+    case.assertTrue(inspect.isfunction(function))
+    case.assertEqual(function.__module__, module)
+    case.assertEqual(parameters(function), arguments)

@@ -28,6 +28,17 @@ def trees():
     return [(name, ast.parse(text)) for name, text in texts()]
 
 
+def defined(tree):
+    """The names that a file itself binds at module level."""
+    found = []
+    for node in tree.body:
+        if isinstance(node, (ast.FunctionDef, ast.ClassDef)):
+            found.append(node.name)
+        if isinstance(node, ast.Assign):
+            found.extend(target.id for target in node.targets)
+    return found
+
+
 def imported(tree):
     """The names of the modules that a file imports; a leading dot is kept."""
     found = []
@@ -68,6 +79,22 @@ class PackageTest(unittest.TestCase):
             for module in imported(tree):
                 first = module.split(".")[0]
                 self.assertTrue(first == "frametally" or first in LIBRARY, (name, module))
+
+    def test_a_name_is_imported_from_the_file_that_defines_it(self):
+        names = {"frametally." + name.removesuffix(".py"): defined(tree) for name, tree in trees()}
+        for name, tree in trees():
+            for node in tree.body:
+                if isinstance(node, ast.ImportFrom) and node.module in names:
+                    for alias in node.names:
+                        self.assertIn(alias.name, names[node.module], (name, node.module))
+
+    def test_no_two_files_import_from_each_other(self):
+        left = {"frametally." + name.removesuffix(".py"): imported(tree) for name, tree in trees()}
+        while left:
+            # A file that imports none of those that are left is in no circle.
+            done = [name for name, modules in left.items() if not set(modules) & set(left)]
+            self.assertNotEqual(done, [], sorted(left))
+            left = {name: modules for name, modules in left.items() if name not in done}
 
     def test_no_builtin_but_those_of_the_rules(self):
         others = set(dir(builtins)) - BUILTINS
