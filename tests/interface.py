@@ -24,3 +24,11 @@ def check_function(case, function, module, arguments):
     case.assertTrue(inspect.isfunction(function))
     case.assertEqual(function.__module__, module)
     case.assertEqual(parameters(function), arguments)
+
+
+def check_machine(case, cls, module, arguments):
+    """Checks that a machine is defined in its file, is made with these arguments, and has its two methods."""
+    case.assertEqual(cls.__module__, module)
+    case.assertEqual(parameters(cls), arguments)
+    case.assertEqual(parameters(cls.request), [])
+    case.assertEqual(len(parameters(cls.accept)), 1)
