@@ -1,7 +1,7 @@
 """Eviction, which makes a frame free, and the getting of a frame."""
 
 from frametally.kernel import Doing, Invalidating, file_owner
-from frametally.memory import CELLS
+from frametally.moves import Saving, word_write
 
 
 def frames_to_pass(kernel, passed_over):
@@ -30,7 +30,7 @@ class Evicting:
             self._wanted = ("end", None)
         else:
             self._choose_place()
-            self._wanted = ("call", Doing([("write", kernel.word_cell(pair), self._word) for pair in self._pairs]))
+            self._wanted = ("call", Doing([word_write(kernel, pair, self._word) for pair in self._pairs]))
 
     def request(self):
         """The machine for the next stage, or the end."""
@@ -43,11 +43,7 @@ class Evicting:
             self._wanted = ("call", Invalidating(self._kernel, self._processor, self._pairs))
         elif self._stage == "letters":
             self._stage = "cells"
-            self._wanted = ("call", Doing(self._reads()))
-        elif self._stage == "cells":
-            self._stage = "block"
-            values = tuple([value for value, _ in result])
-            self._wanted = ("write", self._place(), values)
+            self._wanted = ("call", Saving(self._kernel.sizes, self._frame, self._place()))
         else:
             self._move_owners()
             self._wanted = ("end", self._frame)
@@ -61,10 +57,6 @@ class Evicting:
         if self._word is None:
             self._block = self._kernel.blocks.take()
             self._word = ("swap", self._block)
-
-    def _reads(self):
-        """The accesses that read the cells of the frame."""
-        return [("read", self._kernel.sizes.frame_cell(self._frame, index)) for index in range(CELLS)]
 
     def _place(self):
         """The cell of the block to which the cells of the frame are written."""

@@ -48,6 +48,71 @@ def kernel_state(kernel):
     )
 
 
+def fill(kernel, frame, owners, values, writable=False):
+    """Gives a free frame these owners and values, and the table words that go with them."""
+    kernel.frames.hold(frame)
+    for index, value in enumerate(values):
+        kernel.memory.access(0, ("write", kernel.sizes.frame_cell(frame, index), value))
+    for owner in owners:
+        kernel.frames.add(frame, owner)
+        if owner[0] != "file":
+            kernel.memory.access(0, ("write", kernel.word_cell(owner), ("frame", frame, writable)))
+
+
+def fill_block(kernel, block, owners, values):
+    """Gives a free swap block these owners and values, and the table words that go with them."""
+    kernel.blocks.hold(block)
+    kernel.memory.access(0, ("write", kernel.sizes.swap_block(block), values))
+    for owner in owners:
+        kernel.blocks.add(block, owner)
+        kernel.memory.access(0, ("write", kernel.word_cell(owner), ("swap", block)))
+
+
+def word(kernel, pair):
+    """The table word of the pair."""
+    return kernel.memory.peek(kernel.word_cell(pair))
+
+
+def words(kernel):
+    """A dict from each pair whose table word is not None to the word."""
+    found = {(space, page): word(kernel, (space, page)) for space in range(4) for page in range(8)}
+    return {pair: value for pair, value in found.items() if value is not None}
+
+
+def frame_values(kernel, frame):
+    return tuple(kernel.memory.peek(kernel.sizes.frame_cell(frame, index)) for index in (0, 1))
+
+
+def swap_value(kernel, block):
+    return kernel.memory.peek(kernel.sizes.swap_block(block))
+
+
+def file_value(kernel, file, page):
+    return kernel.memory.peek(kernel.sizes.file_block(file, page))
+
+
+def reads(kernel, frame):
+    """The accesses that read the cells of a frame."""
+    return [("read", kernel.sizes.frame_cell(frame, index)) for index in (0, 1)]
+
+
+def fillings(kernel, frame, values):
+    """The accesses that write the cells of a frame."""
+    return [("write", kernel.sizes.frame_cell(frame, index), value) for index, value in enumerate(values)]
+
+
+def writes(kernel, pairs, value):
+    """The accesses that give the table words of the pairs one value."""
+    return [("write", kernel.word_cell(pair), value) for pair in pairs]
+
+
+def invalidation(kernel, processor, ticket, pairs):
+    """The accesses of an invalidation whose letters are taken early."""
+    others = [other for other in range(kernel.sizes.processors) if other != processor]
+    sends = [("send", other, (ticket, tuple(pairs))) for other in others]
+    return sends + [("read", kernel.sizes.acknowledge(other)) for other in others]
+
+
 def requests_since(memory, count):
     """The pairs (processor, request) of the accesses behind the one with this number."""
     return [(processor, request) for number, processor, request in memory.log() if number > count]
@@ -58,6 +123,32 @@ def take_letters(memory):
     for processor, box in enumerate(memory.boxes):
         while box.letters():
             memory.access(processor, ("take",))
+
+
+def run_carefully(case, kernel, processor, machine):
+    """Runs a machine and those that it calls by point 14 alone, and checks that asking for a request changes nothing.
+
+    Returns the value of its end.
+    """
+    memory = kernel.memory
+    machines = [machine]
+    for _ in range(10 * MANY):
+        before = (state_of(memory), kernel_state(kernel))
+        for _ in range(3):
+            request = machines[-1].request()
+            case.assertEqual((state_of(memory), kernel_state(kernel)), before)
+        if request[0] == "call":
+            machines.append(request[1])
+        elif request[0] == "end":
+            machines.pop()
+            if not machines:
+                return request[1]
+            machines[-1].accept(request[1])
+        else:
+            take_letters(memory)
+            outcome = memory.access(processor, machines[-1].request())
+            machines[-1].accept(outcome)
+    raise AssertionError("the machine does not end")
 
 
 def run(memory, processor, machine, early=True):

@@ -56,7 +56,8 @@ class IsAreaTest(unittest.TestCase):
 
     def test_sources(self):
         for source in (
-            0, 1, True, False, "", "0", (), (0,), (0, 0, 0), [0, 0], [], {}, (None, 0), (0, None), (True, 0), (False, 0),
+            0, 1, True, False, "", "0", (), (0,), (0, 0, 0), [0, 0], [], {}, (None, 0), (0, None),
+            (True, 0), (False, 0),
             (0, True), (0, False), ("0", 0), (0, "0"), ((0, 0),), (0, (0,)),
         ):
             self.check((0, 1, "rw", source), False)

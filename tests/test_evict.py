@@ -5,45 +5,10 @@ import unittest
 from frametally.evict import Evicting, Getting
 from frametally.machines import Stack
 from tests.interface import check_machine
-from tests.play import kernel_state, new_kernel, requests_since, run, state_of
-
-
-def fill(kernel, frame, owners, values, writable=False):
-    """Gives a frame these owners and values, and the table words that go with them."""
-    kernel.frames.hold(frame)
-    for index, value in enumerate(values):
-        kernel.memory.access(0, ("write", kernel.sizes.frame_cell(frame, index), value))
-    for owner in owners:
-        kernel.frames.add(frame, owner)
-        if owner[0] != "file":
-            kernel.memory.access(0, ("write", kernel.word_cell(owner), ("frame", frame, writable)))
-
-
-def word(kernel, pair):
-    return kernel.memory.peek(kernel.word_cell(pair))
-
-
-def swap_value(kernel, block):
-    return kernel.memory.peek(kernel.sizes.swap_block(block))
-
-
-def file_value(kernel, file, page):
-    return kernel.memory.peek(kernel.sizes.file_block(file, page))
-
-
-def writes(kernel, pairs, value):
-    return [("write", kernel.word_cell(pair), value) for pair in pairs]
-
-
-def invalidation(kernel, processor, ticket, pairs):
-    """The accesses of an invalidation whose letters are taken early."""
-    others = [other for other in range(kernel.sizes.processors) if other != processor]
-    sends = [("send", other, (ticket, tuple(pairs))) for other in others]
-    return sends + [("read", kernel.sizes.acknowledge(other)) for other in others]
-
-
-def reads(kernel, frame):
-    return [("read", kernel.sizes.frame_cell(frame, index)) for index in (0, 1)]
+from tests.play import (
+    file_value, fill, invalidation, kernel_state, new_kernel, reads, requests_since, run, run_carefully, state_of,
+    swap_value, word, writes,
+)
 
 
 class InterfaceTest(unittest.TestCase):
@@ -329,6 +294,18 @@ class OrderTest(unittest.TestCase):
             ("write", kernel.word_cell((0, 1)), ("swap", 0)), *reads(kernel, 0),
             ("write", kernel.sizes.swap_block(0), (None, ())),
         ])
+
+
+class CarefulTest(unittest.TestCase):
+    """Point 14."""
+
+    def test_asking_changes_nothing(self):
+        for cls in (Evicting, Getting):
+            for owners in ([(0, 1), (2, 1)], [("file", 0, 3), (2, 1)]):
+                kernel = new_kernel(3, 2, 1)
+                fill(kernel, 0, owners, (5, 6))
+                fill(kernel, 1, [("file", 1, 0)], (7, 8))
+                self.assertEqual(run_carefully(self, kernel, 1, cls(kernel, 1, [])), 0)
 
 
 class GettingTest(unittest.TestCase):
