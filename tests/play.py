@@ -8,6 +8,20 @@ from frametally.memory import Memory, Sizes
 MANY = 200
 
 
+class Numbers:
+    """The same numbers at each run, without much order."""
+
+    def __init__(self, seed):
+        self.state = seed
+
+    def below(self, many):
+        self.state = (self.state * 6364136223846793005 + 1442695040888963407) % 2 ** 64
+        return (self.state >> 33) % many
+
+    def one_of(self, rows):
+        return rows[self.below(len(rows))]
+
+
 def new_memory(processors, frames, blocks):
     return Memory(Sizes(processors, frames, blocks))
 

@@ -6,7 +6,7 @@ from frametally import letters, memory
 from frametally.errors import NotValid
 from frametally.memory import Memory, Sizes
 from tests.interface import check_class
-from tests.play import cells_of, new_memory, requests_since, state_of
+from tests.play import Numbers, cells_of, new_memory, requests_since, state_of
 
 VALUES = (None, 0, 1, -7, 10 ** 30, (), (0, 0), (1,), ("frame", 1, True), ("swap", 0), ("held",))
 
@@ -590,20 +590,6 @@ class Model:
             return None
         cell = self.sizes.frame_cell(frame, index)
         return ("done",) if self.swap(processor, cell, old, new) else (self.cells[cell],)
-
-
-class Numbers:
-    """The same numbers at each run, without much order."""
-
-    def __init__(self, seed):
-        self.state = seed
-
-    def below(self, many):
-        self.state = (self.state * 6364136223846793005 + 1442695040888963407) % 2 ** 64
-        return (self.state >> 33) % many
-
-    def one_of(self, rows):
-        return rows[self.below(len(rows))]
 
 
 class ManyAccessesTest(unittest.TestCase):
