@@ -23,7 +23,6 @@ class Evicting:
         self._block = None
         # The table word that the pairs get: it says where the cells of the frame are then.
         self._word = None
-        self._stage = "words"
         # A frame in the hands has no owners, so the hand passes over it.
         self._frame = kernel.hand.victim(kernel.frames, frames_to_pass(kernel, passed_over))
         if self._frame is None:
@@ -31,22 +30,15 @@ class Evicting:
         else:
             self._choose_place()
             self._wanted = ("call", Doing([word_write(kernel, pair, self._word) for pair in self._pairs]))
+            self._behind = self._invalidate
 
     def request(self):
-        """The machine for the next stage, or the end."""
+        """What is wanted next."""
         return self._wanted
 
     def accept(self, result):
-        """Goes on behind a stage."""
-        if self._stage == "words":
-            self._stage = "letters"
-            self._wanted = ("call", Invalidating(self._kernel, self._processor, self._pairs))
-        elif self._stage == "letters":
-            self._stage = "cells"
-            self._wanted = ("call", Saving(self._kernel.sizes, self._frame, self._place()))
-        else:
-            self._move_owners()
-            self._wanted = ("end", self._frame)
+        """Goes on with the result."""
+        self._behind(result)
 
     def _choose_place(self):
         """Finds where the cells go, and whose table words must say so."""
@@ -58,6 +50,14 @@ class Evicting:
             self._block = self._kernel.blocks.take()
             self._word = ("swap", self._block)
 
+    def _invalidate(self, _):
+        self._wanted = ("call", Invalidating(self._kernel, self._processor, self._pairs))
+        self._behind = self._save
+
+    def _save(self, _):
+        self._wanted = ("call", Saving(self._kernel.sizes, self._frame, self._place()))
+        self._behind = self._move_owners
+
     def _place(self):
         """The cell of the block to which the cells of the frame are written."""
         if self._block is None:
@@ -65,13 +65,14 @@ class Evicting:
             return self._kernel.sizes.file_block(file, page)
         return self._kernel.sizes.swap_block(self._block)
 
-    def _move_owners(self):
+    def _move_owners(self, _):
         """Takes the owners from the frame, and gives them to the swap block if there is one."""
         owners = self._kernel.frames.owners(self._frame)
         for owner in owners:
             self._kernel.frames.remove(self._frame, owner)
             if self._block is not None:
                 self._kernel.blocks.add(self._block, owner)
+        self._wanted = ("end", self._frame)
 
 
 class Getting:

@@ -3,6 +3,7 @@
 from frametally.calls import is_call, machine_of
 from frametally.errors import NotValid
 from frametally.kernel import Kernel
+from frametally.letters import is_number_below
 from frametally.machines import Stack
 from frametally.memory import Memory, Sizes
 
@@ -73,9 +74,9 @@ class World:
         before = self.memory.count
         many = self.memory.sizes.processors
         for pick in picks:
-            if 0 <= pick < many:
+            if is_number_below(pick, many):
                 self._courses[pick].step(self.kernel)
-            elif many <= pick < 2 * many:
+            elif is_number_below(pick, 2 * many):
                 self._take(pick - many)
         return self.memory.count - before
 
